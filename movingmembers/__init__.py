@@ -1,0 +1,1 @@
+"""Consensus with membership changes, simulated one step at a time."""
