@@ -21,20 +21,21 @@ class Entry:
 
 
 class Node:
-    """A node as at first, running, with the mask of the initial members."""
+    """A node as at first, with the mask of the initial members."""
 
     def __init__(self, number, initial_members):
         self.number = number
         self.initial_members = initial_members
-        self.running = True
         self.term = 0
         self.voted = None
         self.log = []
-        self.role = FOLLOWER
+        self.start_up()
+
+    def start_up(self):
+        """Run, with the persistent values as they are and the volatile ones as at first."""
+        self.running = True
         self.commit_index = 0
-        self.votes = []
-        self.next_indexes = []
-        self.match_indexes = []
+        self.become_follower()
 
     def term_at(self, position):
         """The term of the entry at this position, 0 at position 0."""

@@ -1,4 +1,4 @@
-"""The operations on nodes that are there: each checks its errors in order, then does its work."""
+"""The operations that change what is kept: each checks its errors in order, then does its work."""
 
 from movingmembers.leading import add_entry, send_heartbeats, stand_for_election
 from movingmembers.members import NODE_BITS, NODE_COUNT
@@ -6,7 +6,7 @@ from movingmembers.node import COMMAND, CONFIGURATION, LEADER
 from movingmembers.receiving import receive
 
 OUT_OF_RANGE = -1
-WRONG_ROLE = -2
+WRONG_STATE = -2
 STOPPED = -3
 NO_CHANGE_NOW = -6
 NO_MEMBER_LEFT = -7
@@ -22,7 +22,7 @@ def start_election(state, number):
     if not node.running:
         return STOPPED
     if node.role == LEADER:
-        return WRONG_ROLE
+        return WRONG_STATE
     stand_for_election(state, node)
     return node.term
 
@@ -82,12 +82,42 @@ def deliver_copy(state, number):
     return receive(state, state.messages[number])
 
 
+def drop(state, number):
+    """Remove a message. Returns 0."""
+    if number >= len(state.messages):
+        return OUT_OF_RANGE
+    state.messages.pop(number)
+    return 0
+
+
+def stop(state, number):
+    """Stop a node; it keeps all of its values. Returns 0."""
+    if number >= NODE_COUNT:
+        return OUT_OF_RANGE
+    node = state.nodes[number]
+    if not node.running:
+        return WRONG_STATE
+    node.running = False
+    return 0
+
+
+def restart(state, number):
+    """Let a stopped node run again. Returns 0."""
+    if number >= NODE_COUNT:
+        return OUT_OF_RANGE
+    node = state.nodes[number]
+    if node.running:
+        return WRONG_STATE
+    node.start_up()
+    return 0
+
+
 def leader_refusal(node):
     """The error of a node that is to act as a running leader, 0 if it is one."""
     if not node.running:
         return STOPPED
     if node.role != LEADER:
-        return WRONG_ROLE
+        return WRONG_STATE
     return 0
 
 

@@ -1,5 +1,7 @@
 """What the tests share: calls as numbers, and a session that can be looked into."""
 
+import unittest
+
 from movingmembers.cluster import Session, answers
 from movingmembers.messages import APPEND, APPEND_REPLY, VOTE_REPLY, VOTE_REQUEST
 
@@ -37,6 +39,34 @@ def deliver_copy(message):
     return [6, message]
 
 
+def drop(message):
+    return [7, message]
+
+
+def stop(node):
+    return [8, node]
+
+
+def restart(node):
+    return [9, node]
+
+
+def messages():
+    return [10]
+
+
+def node(number):
+    return [11, number]
+
+
+def committed():
+    return [12]
+
+
+def leaders():
+    return [13]
+
+
 def one_list(calls):
     return [number for call in calls for number in call]
 
@@ -48,6 +78,8 @@ def answered(*calls):
     place = 0
     while place < len(given):
         end = place + 1 + given[place]
+        if not place + 1 < end <= len(given):
+            raise AssertionError("a wrong count of numbers")
         parts.append(given[place + 1:end])
         place = end
     return parts
@@ -58,34 +90,27 @@ def numbers(*calls):
     return [number for (number,) in answered(*calls)]
 
 
-def entry_rows(entries):
-    """Entries as the document writes them: their number, and for each term, kind and value."""
-    return [len(entries)] + [number for e in entries for number in (e.term, e.kind, e.value)]
+def message_rows(shown):
+    """What the call messages answers, one list for each message."""
+    lengths = {VOTE_REQUEST: 6, VOTE_REPLY: 5, APPEND_REPLY: 6}
+    rows = []
+    place = 1
+    while place < len(shown):
+        kind = shown[place]
+        end = place + (8 + 3 * shown[place + 6] if kind == APPEND else lengths[kind])
+        rows.append(shown[place:end])
+        place = end
+    if (len(rows), place) != (shown[0], len(shown)):
+        raise AssertionError("messages has a wrong number of messages")
+    return rows
 
 
-def log_rows(entries):
-    return [(e.term, e.kind, e.value) for e in entries]
-
-
-def message_row(message):
-    """A message in the form of the document's operation 10."""
-    row = [message.kind, message.receiver, message.sender, message.term]
-    if message.kind == VOTE_REQUEST:
-        return row + [message.log_length, message.log_term]
-    if message.kind == VOTE_REPLY:
-        return row + [int(message.granted)]
-    if message.kind == APPEND:
-        before = [message.preceding_count, message.preceding_term]
-        return row + before + entry_rows(message.entries) + [message.commit_index]
-    return row + [int(message.success), message.entry_count]
-
-
-def node_row(node):
-    """A node in the form of the document's operation 11."""
-    voted = -1 if node.voted is None else node.voted
-    row = [int(node.running), node.term, voted, node.role, node.commit_index, node.members()]
-    row += entry_rows(node.log) + [len(node.votes)] + node.votes + [len(node.next_indexes)]
-    return row + node.next_indexes + node.match_indexes
+def in_groups(shown, size):
+    """Rows of this size behind their number, as committed and leaders answer them."""
+    rows = [tuple(shown[place:place + size]) for place in range(1, len(shown), size)]
+    if (len(rows), len(rows) * size) != (shown[0], len(shown) - 1):
+        raise AssertionError("a wrong number of rows")
+    return rows
 
 
 class Play:
@@ -105,9 +130,11 @@ class Play:
         return self.state.nodes[number]
 
     def do(self, call):
+        """Carry out a call that answers one number."""
+        (number,) = self.session.perform(call)
         self.calls.append(call)
-        self.results.append(self.session.perform(call))
-        return self.results[-1]
+        self.results.append(number)
+        return number
 
     def place(self, kind, receiver, sender):
         """The number of the earliest such message."""
@@ -122,47 +149,61 @@ class Play:
     def copy(self, kind, receiver, sender):
         return self.do(deliver_copy(self.place(kind, receiver, sender)))
 
+    def drop(self, kind, receiver, sender):
+        return self.do(drop(self.place(kind, receiver, sender)))
+
     def drain(self):
         """Deliver until there is no message."""
-        while self.state.messages:
-            self.do(deliver(0))
+        self.until_none(deliver(0))
 
-    def forget_messages(self):
-        """As if all messages were dropped."""
-        while self.state.messages:
-            self.state.messages.pop()
+    def drop_all(self):
+        self.until_none(drop(0))
 
-    def elect(self, node, voters):
+    def until_none(self, call):
+        for turn in range(2000):
+            if not self.state.messages:
+                return
+            self.do(call)
+        raise AssertionError("the messages do not come to an end")
+
+    def stop_and_restart(self, *stopping):
+        for number in stopping:
+            self.do(stop(number))
+        for number in stopping:
+            self.do(restart(number))
+
+    def elect(self, candidate, voters):
         """An election in which just these nodes receive the request and reply."""
-        self.do(start_election(node))
+        self.do(start_election(candidate))
         for voter in voters:
-            self.deliver(VOTE_REQUEST, voter, node)
-            self.deliver(VOTE_REPLY, node, voter)
+            self.deliver(VOTE_REQUEST, voter, candidate)
+            self.deliver(VOTE_REPLY, candidate, voter)
 
     def replicate(self, leader, follower):
         """One heartbeat to this follower alone, and its reply; the result of the reply."""
-        self.forget_messages()
+        self.drop_all()
         self.do(heartbeat(leader))
         self.deliver(APPEND, follower, leader)
         return self.deliver(APPEND_REPLY, leader, follower)
 
-    def message_rows(self):
-        return [message_row(message) for message in self.state.messages]
+    def row(self, number):
+        return self.session.perform(node(number))
 
-    def log(self, node):
-        return log_rows(self.node(node).log)
+    def message_rows(self):
+        return message_rows(self.session.perform(messages()))
+
+    def log(self, number):
+        return [(entry.term, entry.kind, entry.value) for entry in self.node(number).log]
 
     def committed(self):
-        return log_rows(self.state.committed)
+        return in_groups(self.session.perform(committed()), 3)
+
+    def leaders(self):
+        return in_groups(self.session.perform(leaders()), 2)
 
     def snapshot(self):
-        """All that the session holds."""
-        return (
-            [node_row(node) for node in self.state.nodes],
-            self.message_rows(),
-            self.committed(),
-            list(self.state.leaders),
-        )
+        """All that the session shows."""
+        return ([self.row(number) for number in range(5)], self.message_rows(), self.committed(), self.leaders())
 
 
 def settled(*members):
@@ -171,3 +212,11 @@ def settled(*members):
     play.do(start_election(members[0]))
     play.drain()
     return play
+
+
+class PlayTest(unittest.TestCase):
+    def refused(self, play, call, code):
+        """The call answers this error and changes nothing."""
+        before = play.snapshot()
+        self.assertEqual(play.do(call), code)
+        self.assertEqual(play.snapshot(), before)

@@ -22,7 +22,6 @@ from play import (
     deliver,
     deliver_copy,
     heartbeat,
-    node_row,
     propose,
     settled,
     start_election,
@@ -38,7 +37,7 @@ class BecomingLeader(unittest.TestCase):
         play = Play(0, 1, 2)
         play.elect(0, [1])
         self.assertEqual(
-            node_row(play.node(0)), [1, 1, 0, LEADER, 0, 7, 1, 1, 2, 0, 0, 5, 1, 1, 1, 1, 1, 0, 0, 0, 0, 0]
+            play.row(0), [1, 1, 0, LEADER, 0, 7, 1, 1, 2, 0, 0, 5, 1, 1, 1, 1, 1, 0, 0, 0, 0, 0]
         )
         self.assertEqual(
             play.message_rows(),
@@ -47,12 +46,12 @@ class BecomingLeader(unittest.TestCase):
 
     def test_next_indexes_start_behind_the_log_as_it_was(self):
         play = settled(0, 1, 2)
-        play.forget_messages()
+        play.drop_all()
         play.elect(1, [2])
         self.assertEqual(play.node(1).next_indexes, [2] * 5)
         self.assertEqual(play.node(1).match_indexes, [0] * 5)
         self.assertEqual(play.message_rows()[1:], [[2, 0, 1, 2, 1, 1, 1, 2, 2, 0, 0], [2, 2, 1, 2, 1, 1, 1, 2, 2, 0, 0]])
-        self.assertEqual(play.state.leaders, [(1, 0), (2, 1)])
+        self.assertEqual(play.leaders(), [(1, 0), (2, 1)])
 
     def test_node_that_is_no_member(self):
         play = Play(0, 1, 2)
@@ -121,7 +120,7 @@ class VoteRequests(unittest.TestCase):
         play.do(start_election(0))
         self.assertEqual(play.do(deliver(0)), REPLIED)
         self.assertEqual(play.message_rows()[-1], [1, 0, 1, 1, 1])
-        self.assertEqual(node_row(play.node(1)), [1, 1, 0, FOLLOWER, 0, 7, 0, 0, 0])
+        self.assertEqual(play.row(1), [1, 1, 0, FOLLOWER, 0, 7, 0, 0, 0])
 
     def test_vote_is_given_away(self):
         play = Play(0, 1, 2)
@@ -145,7 +144,7 @@ class VoteRequests(unittest.TestCase):
         play.do(start_election(1))
         self.assertEqual(play.deliver(VOTE_REQUEST, 1, 0), REPLIED)
         self.assertEqual(play.message_rows()[-1], [1, 0, 1, 1, 0])
-        self.assertEqual(node_row(play.node(1)), [1, 1, 1, CANDIDATE, 0, 7, 0, 1, 1, 0])
+        self.assertEqual(play.row(1), [1, 1, 1, CANDIDATE, 0, 7, 0, 1, 1, 0])
 
     def test_request_of_an_earlier_term(self):
         play = Play(0, 1, 2)
@@ -154,10 +153,10 @@ class VoteRequests(unittest.TestCase):
         play.do(start_election(1))
         play.deliver(VOTE_REQUEST, 2, 1)
         play.deliver(VOTE_REQUEST, 2, 1)
-        before = node_row(play.node(2))
+        before = play.row(2)
         self.assertEqual(play.deliver(VOTE_REQUEST, 2, 0), REPLIED)
         self.assertEqual(play.message_rows()[-1], [1, 0, 2, 2, 0])
-        self.assertEqual(node_row(play.node(2)), before)
+        self.assertEqual(play.row(2), before)
 
     def test_free_vote_is_not_for_an_earlier_term(self):
         play = settled(0, 1, 2)
@@ -196,7 +195,7 @@ class VoteRequests(unittest.TestCase):
         play = settled(0, 1, 2)
         play.do(start_election(1))
         self.assertEqual(play.deliver(VOTE_REQUEST, 0, 1), REPLIED)
-        self.assertEqual(node_row(play.node(0)), [1, 2, 1, FOLLOWER, 1, 7, 1, 1, 2, 0, 0, 0])
+        self.assertEqual(play.row(0), [1, 2, 1, FOLLOWER, 1, 7, 1, 1, 2, 0, 0, 0])
 
     def test_candidate_gives_way_without_a_vote(self):
         play = settled(0, 1, 2)
@@ -208,7 +207,7 @@ class VoteRequests(unittest.TestCase):
         self.assertEqual(play.node(1).term, 3)
         play.do(deliver(len(play.state.messages) - 1))
         # Node 2 adopts the term, but its log goes further.
-        self.assertEqual(node_row(play.node(2))[:5], [1, 3, -1, FOLLOWER, 1])
+        self.assertEqual(play.row(2)[:5], [1, 3, -1, FOLLOWER, 1])
         self.assertEqual(play.node(2).votes, [])
 
 
@@ -222,7 +221,7 @@ class VoteReplies(unittest.TestCase):
         self.assertEqual(play.node(0).votes, [0, 3])
         self.assertEqual(play.deliver(VOTE_REPLY, 0, 1), BECAME_LEADER)
         self.assertEqual(play.deliver(VOTE_REPLY, 0, 4), IGNORED)
-        self.assertEqual(play.state.leaders, [(1, 0)])
+        self.assertEqual(play.leaders(), [(1, 0)])
 
     def test_same_vote_twice(self):
         play = Play(0, 1, 2, 3, 4)
@@ -246,7 +245,7 @@ class VoteReplies(unittest.TestCase):
         play.deliver(VOTE_REQUEST, 1, 0)
         play.do(start_election(0))
         self.assertEqual(play.deliver(VOTE_REPLY, 0, 1), IGNORED)
-        self.assertEqual(node_row(play.node(0)), [1, 2, 0, CANDIDATE, 0, 7, 0, 1, 0, 0])
+        self.assertEqual(play.row(0), [1, 2, 0, CANDIDATE, 0, 7, 0, 1, 0, 0])
 
     def test_greater_term(self):
         play = Play(0, 1, 2)
@@ -255,14 +254,14 @@ class VoteReplies(unittest.TestCase):
         play.do(start_election(1))
         play.deliver(VOTE_REQUEST, 1, 0)
         self.assertEqual(play.deliver(VOTE_REPLY, 0, 1), ADOPTED)
-        self.assertEqual(node_row(play.node(0)), [1, 2, -1, FOLLOWER, 0, 7, 0, 0, 0])
+        self.assertEqual(play.row(0), [1, 2, -1, FOLLOWER, 0, 7, 0, 0, 0])
 
     def test_follower_counts_no_vote(self):
         play = Play(0, 1, 2)
         play.do(start_election(0))
         play.elect(1, [2])
         play.deliver(APPEND, 0, 1)
-        self.assertEqual(node_row(play.node(0)), [1, 1, 0, FOLLOWER, 0, 7, 1, 1, 2, 0, 0, 0])
+        self.assertEqual(play.row(0), [1, 1, 0, FOLLOWER, 0, 7, 1, 1, 2, 0, 0, 0])
         play.deliver(VOTE_REQUEST, 2, 0)
         reply = play.state.messages[play.place(VOTE_REPLY, 0, 2)]
         reply.granted = True
@@ -288,7 +287,7 @@ class Appends(unittest.TestCase):
     def test_earlier_term_is_refused(self):
         play = self.follower([1, 2], 5)
         self.assertEqual(self.append(play, 4, (2, 2), entries_of(4), 2), [[3, 0, 1, 5, 0, 0]])
-        self.assertEqual(node_row(play.node(1))[:5], [1, 5, -1, 0, 0])
+        self.assertEqual(play.row(1)[:5], [1, 5, -1, 0, 0])
         self.assertEqual(self.terms(play), [1, 2])
 
     def test_candidate_is_not_moved_by_an_earlier_term(self):
@@ -355,12 +354,12 @@ class Appends(unittest.TestCase):
         play = self.follower([], 4)
         play.do(start_election(1))
         self.append(play, 5, (2, 2), [], 0)
-        self.assertEqual(node_row(play.node(1)), [1, 5, 1, FOLLOWER, 0, 7, 0, 0, 0])
+        self.assertEqual(play.row(1), [1, 5, 1, FOLLOWER, 0, 7, 0, 0, 0])
 
     def test_leader_follows_a_greater_term(self):
         play = settled(1, 0, 2)
         self.append(play, 2, (1, 1), entries_of(2), 0)
-        self.assertEqual(node_row(play.node(1)), [1, 2, -1, FOLLOWER, 1, 7, 2, 1, 2, 0, 2, 0, 0, 0, 0])
+        self.assertEqual(play.row(1), [1, 2, -1, FOLLOWER, 1, 7, 2, 1, 2, 0, 2, 0, 0, 0, 0])
 
 
 class AppendReplies(unittest.TestCase):
@@ -413,19 +412,19 @@ class AppendReplies(unittest.TestCase):
         for success in (False, True):
             play = self.leader()
             self.assertEqual(self.reply(play, 2, success, 4), ADOPTED)
-            self.assertEqual(node_row(play.node(0))[:5], [1, 2, -1, FOLLOWER, 0])
+            self.assertEqual(play.row(0)[:5], [1, 2, -1, FOLLOWER, 0])
             self.assertEqual((play.node(0).next_indexes, play.node(0).match_indexes), ([], []))
 
     def test_earlier_term(self):
         play = settled(0, 1, 2)
         play.do(start_election(1))
-        play.forget_messages()
+        play.drop_all()
         play.node(0).adopt(2)
         play.elect(0, [2])
         for success in (False, True):
-            before = node_row(play.node(0))
+            before = play.row(0)
             self.assertEqual(self.reply(play, 1, success, 1), IGNORED)
-            self.assertEqual(node_row(play.node(0)), before)
+            self.assertEqual(play.row(0), before)
 
     def test_not_the_leader(self):
         play = Play(0, 1, 2)
@@ -438,7 +437,7 @@ class AppendReplies(unittest.TestCase):
     def test_old_leader_learns_of_the_new_one(self):
         play = settled(0, 1, 2)
         play.elect(1, [2])
-        play.forget_messages()
+        play.drop_all()
         play.do(heartbeat(0))
         self.assertEqual(play.deliver(APPEND, 2, 0), REPLIED)
         self.assertEqual(play.message_rows()[-1], [3, 0, 2, 2, 0, 0])

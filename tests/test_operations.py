@@ -1,4 +1,4 @@
-"""The operations 0 to 6: ordinary inputs, the errors in their order, and the edges."""
+"""The operations 0 to 7: ordinary inputs, the errors in their order, and the edges."""
 
 import unittest
 
@@ -13,36 +13,30 @@ from play import (
     LEADER,
     REPLIED,
     Play,
+    PlayTest,
     begin,
     change_member,
     deliver,
     deliver_copy,
+    drop,
     heartbeat,
-    node_row,
     numbers,
     propose,
     settled,
     start_election,
+    stop,
 )
 
 AS_AT_FIRST = [1, 0, -1, 0, 0]
 
 
-class OperationTest(unittest.TestCase):
-    def refused(self, play, call, code):
-        """The call answers this error and changes nothing."""
-        before = play.snapshot()
-        self.assertEqual(play.do(call), code)
-        self.assertEqual(play.snapshot(), before)
-
-
-class Begin(OperationTest):
+class Begin(PlayTest):
     def test_ordinary(self):
         for members, mask in (([0], 1), ([4], 16), ([2, 0], 5), ([4, 3, 2, 1, 0], 31)):
             play = Play(*members)
             self.assertEqual(play.results, [0])
-            for node in play.state.nodes:
-                self.assertEqual(node_row(node), AS_AT_FIRST + [mask, 0, 0, 0])
+            for number in range(5):
+                self.assertEqual(play.row(number), AS_AT_FIRST + [mask, 0, 0, 0])
             self.assertEqual(play.snapshot()[1:], ([], [], []))
 
     def test_errors(self):
@@ -76,13 +70,13 @@ class Begin(OperationTest):
         self.assertEqual(numbers(*calls), [0, 1, 2, 0, -2, 1])
 
 
-class StartElection(OperationTest):
+class StartElection(PlayTest):
     def test_requests_in_ascending_order(self):
         play = Play(4, 2, 0, 1)
         self.assertEqual(play.do(start_election(2)), 1)
         self.assertEqual(play.message_rows(), [[0, 0, 2, 1, 0, 0], [0, 1, 2, 1, 0, 0], [0, 4, 2, 1, 0, 0]])
-        self.assertEqual(node_row(play.node(2)), [1, 1, 2, CANDIDATE, 0, 23, 0, 1, 2, 0])
-        self.assertEqual(play.state.leaders, [])
+        self.assertEqual(play.row(2), [1, 1, 2, CANDIDATE, 0, 23, 0, 1, 2, 0])
+        self.assertEqual(play.leaders(), [])
 
     def test_request_tells_the_log(self):
         play = settled(0, 1, 2)
@@ -104,7 +98,7 @@ class StartElection(OperationTest):
         play = Play(2)
         self.assertEqual(play.do(start_election(2)), 1)
         self.assertEqual(
-            node_row(play.node(2)), [1, 1, 2, LEADER, 1, 4, 1, 1, 2, 0, 0, 5, 1, 1, 1, 1, 1, 0, 0, 0, 0, 0]
+            play.row(2), [1, 1, 2, LEADER, 1, 4, 1, 1, 2, 0, 0, 5, 1, 1, 1, 1, 1, 0, 0, 0, 0, 0]
         )
         self.assertEqual(play.snapshot()[1:], ([], [(1, 2, 0)], [(1, 2)]))
         self.refused(play, start_election(2), -2)
@@ -133,17 +127,17 @@ class StartElection(OperationTest):
         self.refused(play, start_election(5), -1)
         self.refused(play, start_election(0), -2)
         self.assertEqual(play.do(start_election(1)), 2)
-        play.node(2).running = False
+        play.do(stop(2))
         self.refused(play, start_election(2), -3)
         self.refused(play, start_election(6), -1)
 
     def test_stopped_leader_is_refused_as_stopped(self):
         play = settled(0, 1, 2)
-        play.node(0).running = False
+        play.do(stop(0))
         self.refused(play, start_election(0), -3)
 
 
-class Propose(OperationTest):
+class Propose(PlayTest):
     def test_ordinary(self):
         play = settled(0, 1, 2)
         self.assertEqual(play.do(propose(0, 7)), 2)
@@ -167,19 +161,19 @@ class Propose(OperationTest):
         self.refused(play, propose(1, 1), -2)
         play.do(start_election(2))
         self.refused(play, propose(2, 1), -2)
-        play.node(0).running = False
+        play.do(stop(0))
         self.refused(play, propose(0, 1), -3)
 
     def test_the_earlier_error_is_the_answer(self):
         play = settled(0, 1, 2)
         self.refused(play, propose(1, 100), -1)
         self.refused(play, propose(9, 200), -1)
-        play.node(1).running = False
+        play.do(stop(1))
         self.refused(play, propose(1, 100), -1)
         self.refused(play, propose(1, 99), -3)
 
 
-class ChangeMember(OperationTest):
+class ChangeMember(PlayTest):
     def test_add_and_remove(self):
         play = settled(0, 1, 2)
         self.assertEqual(play.do(change_member(0, 4)), 23)
@@ -204,7 +198,7 @@ class ChangeMember(OperationTest):
         play.do(heartbeat(0))
         play.deliver(APPEND, 1, 0)
         self.assertEqual((play.node(1).commit_index, play.node(1).members()), (1, 15))
-        play.forget_messages()
+        play.drop_all()
         play.do(start_election(1))
         self.assertEqual([row[1] for row in play.message_rows()], [0, 2, 3])
 
@@ -217,18 +211,18 @@ class ChangeMember(OperationTest):
         self.refused(play, change_member(5, 0), -1)
         self.refused(play, change_member(0, 5), -1)
         self.refused(play, change_member(1, 0), -2)
-        play.node(0).running = False
+        play.do(stop(0))
         self.refused(play, change_member(0, 3), -3)
 
     def test_the_earlier_error_is_the_answer(self):
         play = settled(0, 1, 2)
         self.refused(play, change_member(1, 9), -1)
-        play.node(1).running = False
+        play.do(stop(1))
         self.refused(play, change_member(1, 9), -1)
         self.refused(play, change_member(1, 0), -3)
         play.do(change_member(0, 3))
         self.refused(play, change_member(0, 5), -1)
-        play.node(0).running = False
+        play.do(stop(0))
         self.refused(play, change_member(0, 4), -3)
 
     def test_not_while_the_last_change_is_not_committed(self):
@@ -297,7 +291,7 @@ class ChangeMember(OperationTest):
         self.assertEqual(play.do(change_member(0, 4)), 18)
 
 
-class Heartbeat(OperationTest):
+class Heartbeat(PlayTest):
     def test_ordinary(self):
         play = settled(0, 1, 3)
         play.do(propose(0, 8))
@@ -332,13 +326,13 @@ class Heartbeat(OperationTest):
         self.refused(play, heartbeat(1), -2)
         play.do(start_election(2))
         self.refused(play, heartbeat(2), -2)
-        play.node(0).running = False
+        play.do(stop(0))
         self.refused(play, heartbeat(0), -3)
-        play.node(1).running = False
+        play.do(stop(1))
         self.refused(play, heartbeat(1), -3)
 
 
-class Room(OperationTest):
+class Room(PlayTest):
     def full(self):
         """A hundred vote requests: 25 elections with four each."""
         play = Play(0, 1, 2, 3, 4)
@@ -390,7 +384,7 @@ class Room(OperationTest):
         self.assertEqual(play.message_rows(), rows)
 
 
-class Deliver(OperationTest):
+class Deliver(PlayTest):
     def test_numbers_move_up(self):
         play = Play(0, 1, 2, 3)
         play.do(start_election(0))
@@ -440,13 +434,68 @@ class Deliver(OperationTest):
     def test_stopped_receiver(self):
         play = Play(0, 1, 2)
         play.do(start_election(0))
-        play.node(1).running = False
+        play.do(stop(1))
         before = play.snapshot()
         self.assertEqual(play.do(deliver_copy(0)), IGNORED)
         self.assertEqual(play.snapshot(), before)
         self.assertEqual(play.do(deliver(0)), IGNORED)
         self.assertEqual(play.message_rows(), before[1][1:])
         self.assertEqual(play.node(1).role, FOLLOWER)
+
+
+class Drop(PlayTest):
+    def test_removes_a_message_that_nobody_receives(self):
+        play = Play(0, 1, 2, 3)
+        play.do(start_election(0))
+        nodes = play.snapshot()[0]
+        self.assertEqual(play.do(drop(1)), 0)
+        self.assertEqual(play.message_rows(), [[0, 1, 0, 1, 0, 0], [0, 3, 0, 1, 0, 0]])
+        self.assertEqual(play.snapshot()[0], nodes)
+        self.assertEqual(play.do(drop(1)), 0)
+        self.assertEqual(play.do(drop(0)), 0)
+        self.assertEqual(play.message_rows(), [])
+
+    def test_each_kind(self):
+        play = Play(0, 1, 2)
+        play.do(start_election(0))
+        self.assertEqual(play.drop(VOTE_REQUEST, 2, 0), 0)
+        play.copy(VOTE_REQUEST, 1, 0)
+        play.deliver(VOTE_REQUEST, 1, 0)
+        self.assertEqual(play.drop(VOTE_REPLY, 0, 1), 0)
+        self.assertEqual(play.deliver(VOTE_REPLY, 0, 1), BECAME_LEADER)
+        self.assertEqual(play.drop(APPEND, 2, 0), 0)
+        play.deliver(APPEND, 1, 0)
+        self.assertEqual(play.drop(APPEND_REPLY, 0, 1), 0)
+        self.assertEqual(play.message_rows(), [])
+        self.assertEqual(play.committed(), [])
+
+    def test_makes_room(self):
+        play = settled(0, 1, 2)
+        for turn in range(50):
+            play.do(heartbeat(0))
+        self.refused(play, drop(100), -1)
+        self.assertEqual(play.do(drop(99)), 0)
+        self.refused(play, drop(99), -1)
+        play.do(propose(0, 6))
+        play.do(heartbeat(0))
+        self.assertEqual(play.message_rows()[99], [2, 1, 0, 1, 1, 1, 1, 1, 0, 6, 1])
+
+    def test_message_to_a_stopped_node(self):
+        play = Play(0, 1)
+        play.do(start_election(0))
+        play.do(stop(1))
+        self.assertEqual(play.do(drop(0)), 0)
+        self.assertEqual(play.message_rows(), [])
+
+    def test_number_that_is_not_there(self):
+        play = Play(0, 1, 2)
+        self.refused(play, drop(0), -1)
+        play.do(start_election(0))
+        self.refused(play, drop(2), -1)
+        self.refused(play, drop(200), -1)
+        self.assertEqual(play.do(drop(1)), 0)
+        self.refused(play, drop(1), -1)
+        self.assertEqual(numbers(begin(0), drop(0), drop(99), drop(200)), [0, -1, -1, -1])
 
 
 if __name__ == "__main__":
